@@ -1,0 +1,1 @@
+"""Heaps of cubes in a box: see cubeheaps.boxes.answers."""
