@@ -1,15 +1,6 @@
 import unittest
-from fractions import Fraction
 
-from support import LARGEST, SIZES, ask, last
-
-
-def macmahon(a, b, c):
-    product = Fraction(1)
-    for i in range(1, a + 1):
-        for j in range(1, b + 1):
-            product *= Fraction(i + j + c - 1, i + j - 1)
-    return int(product)
+from support import LARGEST, SIZES, ask, last, macmahon
 
 
 class BoxTest(unittest.TestCase):

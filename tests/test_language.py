@@ -99,6 +99,15 @@ class LanguageTest(unittest.TestCase):
                     self.assertIsInstance(node, ast.Name)
                     self.assertIsInstance(node.ctx, ast.Load)
 
+    def test_locals_are_not_called_like_imports_or_classes(self):
+        for path in FILES:
+            nodes = list(ast.walk(ast.parse(path.read_text(encoding="ascii"))))
+            taken = {alias.name for node in nodes if isinstance(node, ast.ImportFrom) for alias in node.names}
+            taken |= {node.name for node in nodes if isinstance(node, (ast.ClassDef, ast.FunctionDef))}
+            local = {node.arg for node in nodes if isinstance(node, ast.arg)}
+            local |= {node.id for node in nodes if isinstance(node, ast.Name) and isinstance(node.ctx, ast.Store)}
+            self.assertEqual(taken & local, set(), path)
+
     def test_methods_of_pythons_own(self):
         own = {node.name for name, node in self.nodes() if isinstance(node, ast.FunctionDef)}
         for name, node in self.nodes():
